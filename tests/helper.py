@@ -1,0 +1,115 @@
+"""Texts for tests, and a judge written another way, to hold the program's against."""
+
+import re
+from fractions import Fraction
+from math import isqrt
+
+LINES = re.compile(rb"sign [A-Za-z0-9]{1,12}\n(?:stroke(?: (?:0|[1-9][0-9]*),(?:0|[1-9][0-9]*)){2,65}\n)+")
+BITS = 3000
+
+
+def as_bytes(words):
+    return list(words.encode("latin-1"))
+
+
+def drawing(*strokes, name="A"):
+    """The text of a drawing; each stroke is told as its points, '0,0 3,4' or [(0, 0), (3, 4)]."""
+    rows = ["sign " + name]
+    for stroke in strokes:
+        if not isinstance(stroke, str):
+            stroke = " ".join("%d,%d" % point for point in stroke)
+        rows.append("stroke " + stroke)
+    return as_bytes("".join(row + "\n" for row in rows))
+
+
+def ladder(extents):
+    """A drawing of a stroke of one piece for each (dx, dy), each in rows of its own so that none meet."""
+    strokes = []
+    y = 0
+    for dx, dy in extents:
+        strokes.append([(0, y), (dx, y + dy)])
+        y += dy + 1
+    return drawing(*strokes)
+
+
+def rungs(lengths):
+    """A drawing of level pieces of the lengths told."""
+    return ladder([(length, 0) for length in lengths])
+
+
+def share_badly(one, other):
+    (ax, ay), (bx, by) = one
+    (cx, cy), (dx, dy) = other
+    ux, uy, vx, vy, wx, wy = bx - ax, by - ay, dx - cx, dy - cy, cx - ax, cy - ay
+    turn = ux * vy - uy * vx
+    if turn != 0:
+        along_one = Fraction(wx * vy - wy * vx, turn)
+        along_other = Fraction(wx * uy - wy * ux, turn)
+        if not (0 <= along_one <= 1 and 0 <= along_other <= 1):
+            return False
+        return not (along_one in (0, 1) and along_other in (0, 1))
+    if ux * wy - uy * wx != 0:
+        return False
+    size = ux * ux + uy * uy
+    places = sorted([Fraction(wx * ux + wy * uy, size), Fraction((dx - ax) * ux + (dy - ay) * uy, size)])
+    return max(0, places[0]) < min(1, places[1])
+
+
+def pieces_of(t):
+    if not LINES.fullmatch(bytes(t)):
+        return None
+    pieces = []
+    for row in bytes(t).split(b"\n")[1:-1]:
+        points = [tuple(int(n) for n in word.split(b",")) for word in row.split(b" ")[1:]]
+        if any(max(point) > 4095 for point in points):
+            return None
+        pieces += list(zip(points, points[1:]))
+    ends = [point for piece in pieces for point in piece]
+    if len(pieces) > 64 or any(a == b for a, b in pieces) or max(ends.count(point) for point in ends) > 8:
+        return None
+    if any(share_badly(pieces[i], pieces[k]) for i in range(len(pieces)) for k in range(i)):
+        return None
+    return pieces
+
+
+def squares_of(pieces, chosen):
+    return [(a[0] - b[0]) ** 2 + (a[1] - b[1]) ** 2 for i, (a, b) in enumerate(pieces) if chosen >> i & 1]
+
+
+def kind_of(n):
+    return next(n // (f * f) for f in range(isqrt(n), 0, -1) if n % (f * f) == 0)
+
+
+def bears(squares, c, d):
+    whole = sum(isqrt(n) for n in squares if isqrt(n) ** 2 == n)
+    rest = [n for n in squares if isqrt(n) ** 2 != n]
+    if not rest:
+        return whole * d <= c
+    low = d * sum(isqrt(n << 2 * BITS) for n in rest)
+    room = (c - d * whole) << BITS
+    if not (low >= room or low + d * len(rest) <= room):
+        raise ValueError("too near to tell")
+    return low < room
+
+
+def judged(c, d, t, s, p):
+    if len(t) > 65536:
+        return [-2]
+    pieces = pieces_of(t)
+    if pieces is None:
+        return [-6]
+    if not 1 <= len(s) <= 8 or 0 in (c, d) or len(p) != len(s):
+        return [-1]
+    held = [[i for i in range(64) if tube >> i & 1] for tube in s]
+    flat = [i for tube in held for i in tube]
+    if [] in held or len(flat) != len(set(flat)) or max(flat) >= len(pieces):
+        return [-4]
+    if len({kind_of(n) for tube in s for n in squares_of(pieces, tube)} - {1}) > 10:
+        return [-8]
+    for i, number in enumerate(p):
+        if number not in range(max(p[:i], default=-1) + 2):
+            return [-9, i]
+    for i, number in enumerate(p):
+        if not bears(squares_of(pieces, sum(s[k] for k in range(i + 1) if p[k] == number)), c, d):
+            return [-9, i]
+    return [len(set(p))]

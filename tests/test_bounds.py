@@ -1,0 +1,126 @@
+"""Lengths held against bounds, to a hair."""
+
+import unittest
+from fractions import Fraction
+from math import isqrt
+
+from tests.helper import bears, drawing, ladder, pieces_of, rungs, squares_of
+from tubedesk.circuits import judge
+
+TOP = 2 ** 32 - 1
+KIND_STEPS = ((1, 1), (2, 1), (3, 1), (3, 2), (4, 1), (5, 1), (5, 2), (5, 3), (6, 1), (5, 4))
+D = 650011
+
+
+def near_fractions(squares):
+    """Fractions c / d nearer and nearer to the length of the squares' roots, as far as c and d may go."""
+    length = Fraction(sum(isqrt(n << 800) for n in squares), 1 << 400)
+    before, last, rest = (0, 1), (1, 0), length
+    found = []
+    while True:
+        whole = rest.numerator // rest.denominator
+        before, last = last, (whole * last[0] + before[0], whole * last[1] + before[1])
+        if max(last) > TOP:
+            return found
+        found.append(last)
+        rest = 1 / (rest - whole)
+
+
+class Bounds(unittest.TestCase):
+    def check(self, t, chosen, c, d, borne):
+        with self.subTest(chosen=chosen, c=c, d=d):
+            self.assertEqual(judge(c, d, t, [chosen], [0]), [1] if borne else [-9, 0])
+
+
+class WholeLengths(Bounds):
+    def test_just_the_bound(self):
+        t = drawing("0,0 3,4 8,16")
+        self.check(t, 3, 18, 1, True)
+        self.check(t, 3, 36, 2, True)
+        self.check(t, 3, 17, 1, False)
+        self.check(t, 3, 35, 2, False)
+        self.check(t, 3, 37, 2, True)
+
+    def test_great_bounds(self):
+        t = rungs([3, 5])
+        self.check(t, 1, TOP, TOP // 3, True)
+        self.check(t, 1, TOP, TOP // 3 + 1, False)
+        self.check(t, 2, TOP, TOP // 5, True)
+        self.check(t, 2, TOP - 1, TOP // 5, False)
+        self.check(t, 1, TOP, TOP, False)
+        self.check(t, 1, TOP, 1, True)
+        self.check(t, 1, 1, TOP, False)
+        self.check(rungs([1]), 1, TOP, TOP, True)
+        self.check(rungs([1]), 1, TOP - 1, TOP, False)
+
+    def test_64_pieces(self):
+        t = rungs([4095] * 63 + [4094])
+        self.check(t, 2 ** 64 - 1, 64 * 4095 - 1, 1, True)
+        self.check(t, 2 ** 64 - 1, 64 * 4095 - 2, 1, False)
+
+
+class OneRoot(Bounds):
+    def test_root_2_between_its_nearest_fractions(self):
+        t = drawing("0,0 1,1")
+        # 1855077841 ** 2 is 2 * 1311738121 ** 2 - 1; 768398401 ** 2 is 2 * 543339720 ** 2 + 1.
+        self.check(t, 1, 1855077841, 1311738121, False)
+        self.check(t, 1, 768398401, 543339720, True)
+        self.check(t, 1, 1, 1, False)
+        self.check(t, 1, 2, 1, True)
+
+    def test_root_2_many_times(self):
+        t = drawing("0,0 1,1 3,3 6,6 10,10")
+        # 47321 ** 2 is 2 * 33461 ** 2 - 1; 114243 ** 2 is 2 * 80782 ** 2 + 1.
+        self.check(t, 15, 10 * 47321, 33461, False)
+        self.check(t, 15, 10 * 114243, 80782, True)
+        self.check(t, 15, 10 * 114243 - 1, 80782, False)
+        self.check(t, 15, 14, 1, False)
+        self.check(t, 15, 15, 1, True)
+
+    def test_longest_piece(self):
+        t = drawing("0,0 4095,4095")
+        self.check(t, 1, 5791, 1, False)
+        self.check(t, 1, 5792, 1, True)
+
+    def test_with_whole_lengths_beside_it(self):
+        t = drawing("0,0 1,1", "0,5 7,5")
+        self.check(t, 3, 7, 1, False)
+        self.check(t, 3, 6, 1, False)
+        self.check(t, 3, 8, 1, False)
+        self.check(t, 3, 9, 1, True)
+        self.check(t, 3, 768398401 + 7 * 543339720 - 1, 543339720, False)
+
+
+class SeveralRoots(Bounds):
+    def test_between_the_nearest_fractions(self):
+        for extents in (((1, 1), (2, 1)), ((1, 1), (2, 1), (3, 1), (3, 2)), ((1, 1), (3, 4), (4, 2), (5, 5)),
+                        KIND_STEPS, KIND_STEPS + ((3, 4), (9, 0)), ((4095, 1), (4094, 1), (4093, 2)),
+                        ((1, 2), (2, 1), (2, 4), (1, 1), (1, 1), (7, 7))):
+            t = ladder(extents)
+            everything = 2 ** len(extents) - 1
+            squares = squares_of(pieces_of(t), everything)
+            found = near_fractions(squares)
+            self.assertGreater(len(found), 3)
+            # The fractions near a number lie below and above it by turns.
+            for place, (c, d) in enumerate(found):
+                self.check(t, everything, c, d, place % 2 == 1)
+                self.assertEqual(bears(squares, c, d), place % 2 == 1)
+
+    def test_ten_kinds_nearer_than_floats_or_long_decimals_tell(self):
+        # d times the length is above c by less than 2 ** -76, or below it by as little.
+        for factors, c, borne in (
+                ((508, 82, 423, 224, 113, 23, 181, 63, 61, 54), 3698000595, False),
+                ((503, 282, 73, 411, 282, 30, 21, 36, 17, 204), 3967005331, False),
+                ((599, 98, 215, 380, 43, 221, 46, 108, 37, 10), 3631597458, True),
+                ((466, 207, 168, 95, 15, 71, 129, 129, 101, 149), 3532718888, True)):
+            t = ladder([(factor * dx, factor * dy) for factor, (dx, dy) in zip(factors, KIND_STEPS)])
+            self.check(t, 1023, c, D, borne)
+            self.check(t, 1023, c + 1, D, True)
+            self.check(t, 1023, c - 1, D, False)
+
+    def test_tubes_of_one_transformer_are_added_up(self):
+        factors = (599, 98, 215, 380, 43, 221, 46, 108, 37, 10)
+        t = ladder([(factor * dx, factor * dy) for factor, (dx, dy) in zip(factors, KIND_STEPS)])
+        self.assertEqual(judge(3631597458, D, t, [7, 56, 960], [0, 0, 0]), [1])
+        self.assertEqual(judge(3631597457, D, t, [7, 56, 960], [0, 0, 0]), [-9, 2])
+        self.assertEqual(judge(3631597457, D, t, [7, 56, 960], [0, 0, 1]), [2])

@@ -1,0 +1,131 @@
+"""-1, -4, -8, and which refusal comes first."""
+
+import unittest
+
+from tests.helper import as_bytes, drawing, ladder, rungs
+from tubedesk.circuits import judge
+
+TOP = 2 ** 64 - 1
+# Of these pieces the kinds are 2, 5, 10, 17, 26, 37, 65, 82, 101, 122 and 145.
+ELEVEN = ladder([(n, 1) for n in (1, 2, 3, 4, 5, 6, 8, 9, 10, 11, 12)])
+EIGHT_RUNGS = rungs([1] * 9)
+GARBAGE = as_bytes("garbage\n")
+
+
+class Wrong1(unittest.TestCase):
+    def test_how_many_tubes(self):
+        for count, wanted in ((0, [-1]), (1, [1]), (7, [1]), (8, [1]), (9, [-1])):
+            with self.subTest(count=count):
+                self.assertEqual(judge(9, 1, EIGHT_RUNGS, [1 << i for i in range(count)], [0] * count), wanted)
+
+    def test_bound_of_0(self):
+        t = drawing("0,0 1,0")
+        self.assertEqual(judge(1, 1, t, [1], [0]), [1])
+        self.assertEqual(judge(0, 1, t, [1], [0]), [-1])
+        self.assertEqual(judge(1, 0, t, [1], [0]), [-1])
+        self.assertEqual(judge(0, 0, t, [1], [0]), [-1])
+
+    def test_circuits_longer_and_shorter(self):
+        t = rungs([1, 1])
+        self.assertEqual(judge(9, 1, t, [1, 2], [0, 0]), [1])
+        for p in ([], [0], [0, 0, 0], [0] * 16):
+            with self.subTest(p=p):
+                self.assertEqual(judge(9, 1, t, [1, 2], p), [-1])
+
+
+class Wrong4(unittest.TestCase):
+    def test_piece_that_there_is_not(self):
+        t = rungs([1, 1, 1])
+        self.assertEqual(judge(9, 1, t, [7], [0]), [1])
+        for s in ([8], [15], [1, 8], [1 << 63], [TOP], [1, 2, 12]):
+            with self.subTest(s=s):
+                self.assertEqual(judge(9, 1, t, s, [0] * len(s)), [-4])
+
+    def test_the_last_of_64_pieces(self):
+        t = drawing([(x, 0) for x in range(65)])
+        self.assertEqual(judge(64, 1, t, [TOP], [0]), [1])
+        self.assertEqual(judge(1, 1, t, [1 << 63], [0]), [1])
+        shorter = drawing([(x, 0) for x in range(64)])
+        self.assertEqual(judge(64, 1, shorter, [TOP], [0]), [-4])
+        self.assertEqual(judge(64, 1, shorter, [TOP >> 1], [0]), [1])
+
+    def test_empty_tube(self):
+        for s in ([0], [0, 1], [1, 0], [1, 0, 2]):
+            with self.subTest(s=s):
+                self.assertEqual(judge(9, 1, rungs([1, 1]), s, [0] * len(s)), [-4])
+
+    def test_piece_of_a_tube_before(self):
+        t = rungs([1, 1, 1, 1])
+        self.assertEqual(judge(9, 1, t, [3, 4, 8], [0, 1, 2]), [3])
+        for s in ([1, 1], [3, 2], [2, 3], [1, 2, 4, 9], [1, 2, 4, 2], [5, 10, 15]):
+            with self.subTest(s=s):
+                self.assertEqual(judge(9, 1, t, s, [0] * len(s)), [-4])
+
+
+class Wrong8(unittest.TestCase):
+    def test_10_kinds_and_11(self):
+        self.assertEqual(judge(99, 1, ELEVEN, [2 ** 10 - 1], [0]), [1])
+        self.assertEqual(judge(99, 1, ELEVEN, [2 ** 11 - 1], [0]), [-8])
+
+    def test_kinds_of_all_tubes_together(self):
+        self.assertEqual(judge(99, 1, ELEVEN, [31, 2 ** 11 - 32], [0, 1]), [-8])
+        self.assertEqual(judge(99, 1, ELEVEN, [31, 2 ** 11 - 64], [0, 1]), [2])
+        self.assertEqual(judge(99, 1, ELEVEN, [31, 2 ** 10 - 32, 2 ** 10], [0, 1, 2]), [-8])
+
+    def test_only_pieces_of_tubes_count(self):
+        self.assertEqual(judge(99, 1, ELEVEN, [2 ** 11 - 2], [0]), [1])
+
+    def test_kind_1_does_not_count(self):
+        t = ladder([(n, 1) for n in (1, 2, 3, 4, 5, 6, 8, 9, 10, 11)] + [(3, 4), (5, 0), (0, 7)])
+        self.assertEqual(judge(99, 1, t, [2 ** 13 - 1], [0]), [1])
+
+    def test_the_same_kind_counts_once(self):
+        same = [(2, 2), (3, 3), (7, 1), (4, 2), (6, 3), (11, 2), (6, 2)]
+        t = ladder([(n, 1) for n in (1, 2, 3, 4, 5, 6, 8, 9, 10, 11)] + same)
+        self.assertEqual(judge(200, 1, t, [2 ** 17 - 1], [0]), [1])
+
+    def test_kinds_with_great_factors(self):
+        # Nine pieces: eight kinds other than 1, and kind 1.
+        great = [(4095, 1), (4094, 1), (4093, 1), (4091, 1), (4095, 2), (4093, 2), (4091, 2), (4089, 2), (4001, 0)]
+        # The piece (1, 1) is of the kind of (2503, 2503): 2,503 is prime.
+        t = ladder(great + [(2503, 3), (2503, 2503), (1, 1)])
+        self.assertEqual(judge(2 ** 32 - 1, 1, t, [2 ** 12 - 1], [0]), [1])
+        t = ladder(great + [(2503, 3), (2503, 2503), (1, 1), (2503, 1)])
+        self.assertEqual(judge(2 ** 32 - 1, 1, t, [2 ** 13 - 1], [0]), [-8])
+
+
+class Order(unittest.TestCase):
+    def test_2_ahead_of_all(self):
+        self.assertEqual(judge(0, 0, [10] * 65537, [], [1]), [-2])
+        self.assertEqual(judge(0, 0, drawing("0,0 1,0") + [10] * 65536, [0], [1]), [-2])
+
+    def test_6_ahead_of_1_and_the_rest(self):
+        self.assertEqual(judge(0, 1, GARBAGE, [1], [0]), [-6])
+        self.assertEqual(judge(1, 0, GARBAGE, [1], [0]), [-6])
+        self.assertEqual(judge(1, 1, GARBAGE, [], []), [-6])
+        self.assertEqual(judge(1, 1, GARBAGE, [1], []), [-6])
+        self.assertEqual(judge(1, 1, GARBAGE, [0], [0]), [-6])
+        self.assertEqual(judge(1, 1, GARBAGE, [1], [7]), [-6])
+
+    def test_1_ahead_of_4(self):
+        t = drawing("0,0 1,0")
+        self.assertEqual(judge(0, 1, t, [0], [0]), [-1])
+        self.assertEqual(judge(1, 0, t, [2], [0]), [-1])
+        self.assertEqual(judge(1, 1, t, [1, 1], [0]), [-1])
+        self.assertEqual(judge(1, 1, t, [0] * 9, [0] * 9), [-1])
+
+    def test_1_ahead_of_8_and_9(self):
+        self.assertEqual(judge(1, 1, ELEVEN, [2 ** 11 - 1], [0, 0]), [-1])
+        self.assertEqual(judge(0, 1, ELEVEN, [2 ** 11 - 1], [0]), [-1])
+        self.assertEqual(judge(0, 1, drawing("0,0 1,0"), [1], [1]), [-1])
+
+    def test_4_ahead_of_8_and_9(self):
+        self.assertEqual(judge(1, 1, ELEVEN, [2 ** 11 - 1, 1], [0, 0]), [-4])
+        self.assertEqual(judge(1, 1, ELEVEN, [2 ** 11 - 1, 0], [0, 0]), [-4])
+        self.assertEqual(judge(1, 1, ELEVEN, [2 ** 12 - 1], [0]), [-4])
+        self.assertEqual(judge(1, 1, drawing("0,0 5,0"), [2], [1]), [-4])
+
+    def test_8_ahead_of_9(self):
+        self.assertEqual(judge(1, 1, ELEVEN, [2 ** 11 - 1], [0]), [-8])
+        self.assertEqual(judge(99, 1, ELEVEN, [2 ** 11 - 1], [1]), [-8])
+        self.assertEqual(judge(1, 1, ELEVEN, [2 ** 10 - 1], [1]), [-9, 0])

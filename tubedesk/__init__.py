@@ -1,0 +1,1 @@
+"""Judges which tubes of glass hang on which transformers."""
