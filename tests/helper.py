@@ -1,7 +1,9 @@
-"""Texts for tests, and a judge written another way, to hold the program's against."""
+"""Texts for tests, and the calls written another and slower way, to hold the program's against."""
 
 import re
 from fractions import Fraction
+from functools import lru_cache
+from itertools import product
 from math import isqrt
 
 LINES = re.compile(rb"sign [A-Za-z0-9]{1,12}\n(?:stroke(?: (?:0|[1-9][0-9]*),(?:0|[1-9][0-9]*)){2,65}\n)+")
@@ -35,6 +37,11 @@ def ladder(extents):
 def rungs(lengths):
     """A drawing of level pieces of the lengths told."""
     return ladder([(length, 0) for length in lengths])
+
+
+def singles(count):
+    """As many tubes, each of one piece."""
+    return [1 << i for i in range(count)]
 
 
 def share_badly(one, other):
@@ -80,32 +87,46 @@ def kind_of(n):
     return next(n // (f * f) for f in range(isqrt(n), 0, -1) if n % (f * f) == 0)
 
 
+@lru_cache(maxsize=None)
+def long_root(n):
+    return isqrt(n << 2 * BITS)
+
+
 def bears(squares, c, d):
     whole = sum(isqrt(n) for n in squares if isqrt(n) ** 2 == n)
     rest = [n for n in squares if isqrt(n) ** 2 != n]
     if not rest:
         return whole * d <= c
-    low = d * sum(isqrt(n << 2 * BITS) for n in rest)
+    low = d * sum(long_root(n) for n in rest)
     room = (c - d * whole) << BITS
     if not (low >= room or low + d * len(rest) <= room):
         raise ValueError("too near to tell")
     return low < room
 
 
-def judged(c, d, t, s, p):
+def refused(t, s, rest_fits):
+    """The refusal that comes first, if one does that isn't about circuits, or None."""
     if len(t) > 65536:
-        return [-2]
+        return -2
     pieces = pieces_of(t)
     if pieces is None:
-        return [-6]
-    if not 1 <= len(s) <= 8 or 0 in (c, d) or len(p) != len(s):
-        return [-1]
+        return -6
+    if not 1 <= len(s) <= 8 or not rest_fits:
+        return -1
     held = [[i for i in range(64) if tube >> i & 1] for tube in s]
     flat = [i for tube in held for i in tube]
     if [] in held or len(flat) != len(set(flat)) or max(flat) >= len(pieces):
-        return [-4]
+        return -4
     if len({kind_of(n) for tube in s for n in squares_of(pieces, tube)} - {1}) > 10:
-        return [-8]
+        return -8
+    return None
+
+
+def judged(c, d, t, s, p):
+    refusal = refused(t, s, c > 0 and d > 0 and len(p) == len(s))
+    if refusal is not None:
+        return [refusal]
+    pieces = pieces_of(t)
     for i, number in enumerate(p):
         if number not in range(max(p[:i], default=-1) + 2):
             return [-9, i]
@@ -113,3 +134,34 @@ def judged(c, d, t, s, p):
         if not bears(squares_of(pieces, sum(s[k] for k in range(i + 1) if p[k] == number)), c, d):
             return [-9, i]
     return [len(set(p))]
+
+
+@lru_cache(maxsize=None)
+def all_circuits(count):
+    """All circuits that may be for so many tubes, in no order to rely on, each with its transformers' tubes as bits."""
+    lists = product(*[range(place, -1, -1) for place in range(count)])
+    may_be = [p for p in lists if all(p[i] <= max(p[:i], default=-1) + 1 for i in range(count))]
+    return [(p, [sum(1 << i for i in range(count) if p[i] == k) for k in set(p)]) for p in may_be]
+
+
+def right_circuits(c, d, t, s):
+    """All right circuits."""
+    pieces = pieces_of(t)
+    borne = []
+    for choice in range(1 << len(s)):
+        together = sum(tube for i, tube in enumerate(s) if choice >> i & 1)
+        borne.append(bears(squares_of(pieces, together), c, d))
+    return [p for p, groups in all_circuits(len(s)) if all(borne[group] for group in groups)]
+
+
+def first_of(right):
+    """What fewest and row answer if these are the circuits to take from."""
+    if not right:
+        return [-5]
+    count = min(len(set(p)) for p in right)
+    return [count] + list(sorted(p for p in right if len(set(p)) == count)[0])
+
+
+def found_fewest(c, d, t, s):
+    refusal = refused(t, s, c > 0 and d > 0)
+    return first_of(right_circuits(c, d, t, s)) if refusal is None else [refusal]

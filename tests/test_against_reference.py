@@ -1,10 +1,10 @@
-"""judge held against the helper's judge, at many inputs; the seeds are fixed, so each run is the same."""
+"""The calls held against the helper's, at many inputs; the seeds are fixed, so each run is the same."""
 
 import random
 import unittest
 
-from tests.helper import drawing, judged, pieces_of, share_badly, squares_of
-from tubedesk.circuits import judge
+from tests.helper import drawing, found_fewest, judged, pieces_of, share_badly, squares_of
+from tubedesk.circuits import fewest, judge
 
 
 def sketch(rnd, side, count):
@@ -63,6 +63,9 @@ class AgainstReference(unittest.TestCase):
     def compare(self, call):
         self.assertEqual(judge(*call), judged(*call), call)
 
+    def compare_found(self, c, d, t, s):
+        self.assertEqual(fewest(c, d, t, s), found_fewest(c, d, t, s), (c, d, t, s))
+
     def test_calls(self):
         rnd = random.Random(1)
         answers = {}
@@ -74,10 +77,11 @@ class AgainstReference(unittest.TestCase):
             c, d = bound(rnd, t, s)
             call = (c, d, t, s, circuits(rnd, len(s)))
             self.compare(call)
-            first = judge(*call)[0]
-            answers[first] = answers.get(first, 0) + 1
+            self.compare_found(c, d, t, s)
+            for first in (judge(*call)[0], fewest(*call[:4])[0]):
+                answers[first] = answers.get(first, 0) + 1
         # Each answer that may come did come, so that the comparison says something.
-        for first in (-9, -8, -6, -4, -1, 1, 2, 3, 4):
+        for first in (-9, -8, -6, -5, -4, -1, 1, 2, 3, 4):
             self.assertIn(first, answers)
 
     def test_texts_a_byte_off(self):

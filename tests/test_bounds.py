@@ -4,8 +4,8 @@ import unittest
 from fractions import Fraction
 from math import isqrt
 
-from tests.helper import bears, drawing, ladder, pieces_of, rungs, squares_of
-from tubedesk.circuits import judge
+from tests.helper import bears, drawing, found_fewest, ladder, pieces_of, rungs, singles, squares_of
+from tubedesk.circuits import fewest, judge
 
 TOP = 2 ** 32 - 1
 KIND_STEPS = ((1, 1), (2, 1), (3, 1), (3, 2), (4, 1), (5, 1), (5, 2), (5, 3), (6, 1), (5, 4))
@@ -30,6 +30,7 @@ class Bounds(unittest.TestCase):
     def check(self, t, chosen, c, d, borne):
         with self.subTest(chosen=chosen, c=c, d=d):
             self.assertEqual(judge(c, d, t, [chosen], [0]), [1] if borne else [-9, 0])
+            self.assertEqual(fewest(c, d, t, [chosen]), [1, 0] if borne else [-5])
 
 
 class WholeLengths(Bounds):
@@ -124,3 +125,37 @@ class SeveralRoots(Bounds):
         self.assertEqual(judge(3631597458, D, t, [7, 56, 960], [0, 0, 0]), [1])
         self.assertEqual(judge(3631597457, D, t, [7, 56, 960], [0, 0, 0]), [-9, 2])
         self.assertEqual(judge(3631597457, D, t, [7, 56, 960], [0, 0, 1]), [2])
+        self.assertEqual(fewest(3631597458, D, t, [7, 56, 960]), [1, 0, 0, 0])
+        self.assertEqual(fewest(3631597457, D, t, [7, 56, 960]), [2, 0, 0, 1])
+
+
+class Found(unittest.TestCase):
+    """Where a hair decides which circuits are found."""
+
+    def test_three_tubes(self):
+        t = ladder([(1, 1), (2, 1), (1, 0)])
+        found = near_fractions([2, 5])
+        self.assertGreater(max(found[-1]), 2 ** 30)
+        for place, (c, d) in enumerate(found[2:]):
+            with self.subTest(c=c, d=d):
+                borne = place % 2 == 1
+                self.assertEqual(fewest(c, d, t, singles(3)), [2, 0, 0, 1] if borne else [2, 0, 1, 0])
+
+    def test_whole_lengths_that_are_just_the_bound(self):
+        t = rungs([3, 5, 4])
+        for d in (1, 7, 357913941):
+            with self.subTest(d=d):
+                self.assertEqual(fewest(12 * d, d, t, singles(3)), [1, 0, 0, 0])
+                self.assertEqual(fewest(12 * d - 1, d, t, singles(3))[0], 2)
+                self.assertEqual(fewest(8 * d, d, t, singles(3)), [2, 0, 0, 1])
+                self.assertEqual(fewest(5 * d, d, t, singles(3)), [3, 0, 1, 2])
+                self.assertEqual(fewest(5 * d - 1, d, t, singles(3)), [-5])
+
+    def test_eight_tubes_of_ten_kinds(self):
+        t = ladder(KIND_STEPS)
+        s = singles(7) + [7 << 7]
+        for choice in (0b11, 0b1010101, 0b10000001, 0b11110000, 0b111100, 0b11111111, 0b1000000):
+            chosen = sum(tube for i, tube in enumerate(s) if choice >> i & 1)
+            for c, d in near_fractions(squares_of(pieces_of(t), chosen))[-2:]:
+                with self.subTest(choice=choice, c=c, d=d):
+                    self.assertEqual(fewest(c, d, t, s), found_fewest(c, d, t, s))

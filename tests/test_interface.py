@@ -1,20 +1,37 @@
 """The edges of what is handed in, that it stays as it was, and that nothing is kept."""
 
 import inspect
+import time
 import unittest
 
-from tests.helper import drawing, rungs
-from tubedesk.circuits import judge
+from tests.helper import drawing, ladder, rungs, singles
+from tubedesk.circuits import fewest, judge
 
 TOP = 2 ** 64 - 1
+GREATEST = 2 ** 32 - 1
+BENT = drawing("0,0 3,4 6,0")
+ROW = drawing([(x, 0) for x in range(65)])
+# 64 pieces of ten kinds other than 1, the last ones long.
+TEN_KINDS = ladder([(n % 5 + 1, n % 4 + 1) for n in range(54)]
+                   + [(n * 97, n * 89) for n in range(1, 4)] + [(355, 0)] * 7)
+EIGHT_TUBES = [sum(1 << i for i in range(first, 64, 8)) for first in range(8)]
+# Each call and what it answers.
 CALLS = (
-    (5, 1, drawing("0,0 3,4 6,0"), [1, 2], [0, 1]),
-    (5, 1, drawing("0,0 3,4 6,0"), [2, 1], [0, 0]),
-    (9, 2, drawing("0,0 1,1", "5,5 9,9"), [1, 2], [0, 2]),
-    (1, 1, drawing("0,0 3,4 0,0"), [1], [0]),
-    (1, 1, [10] * 70000, [1], [0]),
-    (1, 1, rungs([1]), [2], [0]),
-    (0, 1, rungs([1]), [1], [0]),
+    (judge, (5, 1, BENT, [1, 2], [0, 1]), [2]),
+    (judge, (5, 1, BENT, [2, 1], [0, 0]), [-9, 1]),
+    (judge, (9, 2, drawing("0,0 1,1", "5,5 9,9"), [1, 2], [0, 2]), [-9, 1]),
+    (judge, (1, 1, drawing("0,0 3,4 0,0"), [1], [0]), [-6]),
+    (judge, (1, 1, [10] * 70000, [1], [0]), [-2]),
+    (judge, (1, 1, rungs([1]), [2], [0]), [-4]),
+    (judge, (0, 1, rungs([1]), [1], [0]), [-1]),
+    (fewest, (5, 1, BENT, [1, 2]), [2, 0, 1]),
+    (fewest, (10, 1, BENT, [2, 1]), [1, 0, 0]),
+    (fewest, (4, 1, BENT, [2, 1]), [-5]),
+    (fewest, (7, 1, rungs([3, 4, 2, 1, 4]), [1, 8, 2, 4, 16]), [2, 0, 1, 0, 1, 1]),
+    (fewest, (1, 1, drawing("0,0 3,4 0,0"), [1]), [-6]),
+    (fewest, (1, 1, [10] * 70000, [1]), [-2]),
+    (fewest, (1, 1, rungs([1]), [2]), [-4]),
+    (fewest, (1, 0, rungs([1]), [1]), [-1]),
 )
 
 
@@ -30,52 +47,73 @@ class Locked(list):
 
 class Edges(unittest.TestCase):
     def test_arguments_are_called_as_told(self):
-        self.assertEqual(list(inspect.signature(judge).parameters), ["c", "d", "t", "s", "p"])
+        for call, names in ((judge, "cdtsp"), (fewest, "cdts")):
+            self.assertEqual(list(inspect.signature(call).parameters), list(names))
         self.assertEqual(judge(p=[0], s=[1], t=rungs([2]), d=1, c=2), [1])
+        self.assertEqual(fewest(s=[1], t=rungs([2]), d=1, c=2), [1, 0])
 
     def test_70000_bytes(self):
-        self.assertEqual(judge(1, 1, [0] * 70000, [1], [0]), [-2])
-        self.assertEqual(judge(1, 1, [255] * 70000, [1], [0]), [-2])
-        self.assertEqual(judge(1, 1, list(range(256)), [1], [0]), [-6])
+        for t, wanted in (([0] * 70000, [-2]), ([255] * 70000, [-2]), (list(range(256)), [-6])):
+            self.assertEqual(judge(1, 1, t, [1], [0]), wanted)
+            self.assertEqual(fewest(1, 1, t, [1]), wanted)
 
     def test_16_numbers(self):
-        self.assertEqual(judge(1, 1, rungs([1] * 16), [1 << i for i in range(16)], [0] * 16), [-1])
+        for t, s in ((rungs([1] * 16), singles(16)), (rungs([1]), [TOP] * 16)):
+            self.assertEqual(judge(1, 1, t, s, [0] * 16), [-1])
+            self.assertEqual(fewest(1, 1, t, s), [-1])
         self.assertEqual(judge(1, 1, rungs([1]), [TOP] * 16, [255] * 16), [-1])
         self.assertEqual(judge(1, 1, rungs([1]), [TOP] * 16, []), [-1])
         self.assertEqual(judge(1, 1, rungs([1]), [], [255] * 16), [-1])
 
     def test_greatest_numbers(self):
-        row = drawing([(x, 0) for x in range(65)])
-        self.assertEqual(judge(2 ** 32 - 1, 2 ** 32 - 1, row, [TOP], [0]), [-9, 0])
-        self.assertEqual(judge(2 ** 32 - 1, 1, row, [TOP], [255]), [-9, 0])
-        self.assertEqual(judge(2 ** 32 - 1, 1, row, [1, TOP - 1], [0, 255]), [-9, 1])
-        self.assertEqual(judge(2 ** 32 - 1, 1, row, [TOP - 1, 1], [0, 1]), [2])
-        self.assertEqual(judge(2 ** 32 - 1, 1, rungs([1]), [TOP], [0]), [-4])
+        self.assertEqual(judge(GREATEST, GREATEST, ROW, [TOP], [0]), [-9, 0])
+        self.assertEqual(judge(GREATEST, 1, ROW, [TOP], [255]), [-9, 0])
+        self.assertEqual(judge(GREATEST, 1, ROW, [1, TOP - 1], [0, 255]), [-9, 1])
+        self.assertEqual(judge(GREATEST, 1, ROW, [TOP - 1, 1], [0, 1]), [2])
+        self.assertEqual(judge(GREATEST, 1, rungs([1]), [TOP], [0]), [-4])
+
+    def test_greatest_numbers_of_fewest(self):
+        self.assertEqual(fewest(GREATEST, 1, ROW, [TOP]), [1, 0])
+        self.assertEqual(fewest(64, 1, ROW, [TOP]), [1, 0])
+        self.assertEqual(fewest(63, 1, ROW, [TOP]), [-5])
+        self.assertEqual(fewest(63, 1, ROW, [TOP - 1, 1]), [2, 0, 1])
+        self.assertEqual(fewest(GREATEST, GREATEST, ROW, [TOP]), [-5])
+        self.assertEqual(fewest(GREATEST, GREATEST, ROW, [1 << 63, 1]), [2, 0, 1])
+        self.assertEqual(fewest(GREATEST, 1, rungs([1]), [TOP]), [-4])
+
+    def test_eight_tubes_of_ten_kinds_in_a_few_seconds(self):
+        start = time.monotonic()
+        for d in (1, 650011, 2 ** 20):
+            self.assertEqual(fewest(4000 * d, d, TEN_KINDS, EIGHT_TUBES), [1] + [0] * 8)
+            self.assertEqual(fewest(1800 * d, d, TEN_KINDS, EIGHT_TUBES), [2, 0, 0, 0, 1, 1, 1, 0, 1])
+        self.assertLess(time.monotonic() - start, 6 * 3)
 
     def test_a_list_of_whole_numbers_is_given_back(self):
-        for call in CALLS:
-            answer = judge(*call)
+        for call, given, wanted in CALLS:
+            answer = call(*given)
             self.assertIs(type(answer), list)
             self.assertTrue(all(type(number) is int for number in answer))
 
 
 class NothingKept(unittest.TestCase):
     def test_what_is_handed_in_is_not_changed(self):
-        for c, d, t, s, p in CALLS:
-            held = (list(t), list(s), list(p))
-            wanted = judge(c, d, t, s, p)
-            self.assertEqual((t, s, p), held)
-            self.assertEqual(judge(c, d, Locked(t), Locked(s), Locked(p)), wanted)
+        for call, given, wanted in CALLS:
+            held = [list(part) if isinstance(part, list) else part for part in given]
+            locked = [Locked(part) if isinstance(part, list) else part for part in given]
+            self.assertEqual(call(*given), wanted)
+            self.assertEqual(list(given), held)
+            self.assertEqual(call(*locked), wanted)
+            self.assertEqual(locked, held)
 
     def test_a_second_call_answers_the_same(self):
-        first = [judge(*call) for call in CALLS]
-        self.assertEqual(first, [[2], [-9, 1], [-9, 1], [-6], [-2], [-4], [-1]])
-        self.assertEqual([judge(*call) for call in reversed(CALLS)], first[::-1])
-        self.assertEqual([judge(*call) for call in CALLS for again in (1, 2)], [a for a in first for again in (1, 2)])
+        for calls in (CALLS, CALLS[::-1], CALLS + CALLS):
+            for call, given, wanted in calls:
+                self.assertEqual(call(*given), wanted)
+                self.assertEqual(call(*given), wanted)
 
     def test_an_answer_that_is_changed_changes_no_later_one(self):
-        for call in CALLS:
-            answer = judge(*call)
-            held = list(answer)
+        for call, given, wanted in CALLS:
+            answer = call(*given)
             answer.append(7)
-            self.assertEqual(judge(*call), held)
+            answer[0] = 99
+            self.assertEqual(call(*given), wanted)

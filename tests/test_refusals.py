@@ -2,14 +2,20 @@
 
 import unittest
 
-from tests.helper import as_bytes, drawing, ladder, rungs
-from tubedesk.circuits import judge
+from tests.helper import as_bytes, drawing, ladder, rungs, singles
+from tubedesk.circuits import fewest, judge
 
 TOP = 2 ** 64 - 1
 # Of these pieces the kinds are 2, 5, 10, 17, 26, 37, 65, 82, 101, 122 and 145.
 ELEVEN = ladder([(n, 1) for n in (1, 2, 3, 4, 5, 6, 8, 9, 10, 11, 12)])
 EIGHT_RUNGS = rungs([1] * 9)
 GARBAGE = as_bytes("garbage\n")
+LINE = drawing("0,0 1,0")
+# Each call as one of a bound, a text and tubes alone.
+CALLS = {
+    "judge": lambda c, d, t, s: judge(c, d, t, s, [0] * len(s)),
+    "fewest": fewest,
+}
 
 
 class Wrong1(unittest.TestCase):
@@ -129,3 +135,70 @@ class Order(unittest.TestCase):
         self.assertEqual(judge(1, 1, ELEVEN, [2 ** 11 - 1], [0]), [-8])
         self.assertEqual(judge(99, 1, ELEVEN, [2 ** 11 - 1], [1]), [-8])
         self.assertEqual(judge(1, 1, ELEVEN, [2 ** 10 - 1], [1]), [-9, 0])
+
+
+class EveryCall(unittest.TestCase):
+    """What is refused in every call alike, and ahead of what else."""
+
+    def refused(self, refusal, c, d, t, s):
+        for name, call in CALLS.items():
+            with self.subTest(call=name, c=c, d=d, t=t[:30], s=s):
+                self.assertEqual(call(c, d, t, s), [refusal])
+
+    def taken(self, c, d, t, s):
+        for name, call in CALLS.items():
+            with self.subTest(call=name, c=c, d=d, t=t[:30], s=s):
+                self.assertGreaterEqual(call(c, d, t, s)[0], 0)
+
+    def test_2(self):
+        self.refused(-2, 1, 1, LINE + [10] * (65537 - len(LINE)), [1])
+        self.refused(-2, 0, 0, [65] * 65537, [])
+        self.refused(-2, 1, 1, [65] * 70000, [0])
+        self.refused(-2, 1, 1, ELEVEN + [10] * 65536, [2 ** 11 - 1])
+
+    def test_6(self):
+        self.refused(-6, 1, 1, [65] * 65536, [1])
+        self.refused(-6, 1, 1, LINE + [10] * (65536 - len(LINE)), [1])
+        self.refused(-6, 1, 1, [], [1])
+        self.refused(-6, 1, 1, LINE[:-1], [1])
+        self.refused(-6, 1, 1, drawing("0,0 2,2", "0,2 2,0"), [1])
+        self.refused(-6, 1, 1, drawing("0,0 4096,0"), [1])
+        self.refused(-6, 0, 1, GARBAGE, [1])
+        self.refused(-6, 1, 0, GARBAGE, [1])
+        self.refused(-6, 1, 1, GARBAGE, [])
+        self.refused(-6, 1, 1, GARBAGE, singles(9))
+        self.refused(-6, 1, 1, GARBAGE, [0])
+
+    def test_1_of_tubes(self):
+        for count in range(1, 9):
+            self.taken(9, 1, EIGHT_RUNGS, singles(count))
+        self.refused(-1, 9, 1, EIGHT_RUNGS, [])
+        self.refused(-1, 9, 1, EIGHT_RUNGS, singles(9))
+        self.refused(-1, 9, 1, EIGHT_RUNGS, [TOP] * 16)
+        self.refused(-1, 9, 1, ELEVEN, singles(9) + [0])
+
+    def test_1_of_bounds(self):
+        self.taken(1, 1, LINE, [1])
+        self.refused(-1, 0, 1, LINE, [1])
+        self.refused(-1, 1, 0, LINE, [1])
+        self.refused(-1, 0, 0, LINE, [1])
+        self.refused(-1, 0, 2 ** 32 - 1, LINE, [0])
+        self.refused(-1, 2 ** 32 - 1, 0, LINE, [2])
+        self.refused(-1, 0, 1, ELEVEN, [2 ** 11 - 1])
+        self.refused(-1, 0, 1, drawing("0,0 5,0"), [1])
+
+    def test_4(self):
+        for s in ([2], [TOP], [1, 2], [0], [1, 0], [0, 1], [1, 1], [1 << 63, 1]):
+            self.refused(-4, 9, 1, LINE, s)
+        for s in ([2, 3], [3, 4, 6], [1, 2, 4, 2], [8, 4, 2, 15]):
+            self.refused(-4, 9, 1, rungs([1] * 4), s)
+        for s in ([2 ** 11 - 1, 1], [2 ** 11 - 1, 0], [2 ** 12 - 1], [0, 2 ** 11 - 1]):
+            self.refused(-4, 9, 1, ELEVEN, s)
+        self.refused(-4, 1, 1, drawing("0,0 5,0"), [1, 1])
+
+    def test_8(self):
+        self.taken(99, 1, ELEVEN, [2 ** 10 - 1])
+        self.taken(99, 1, ELEVEN, [31, 2 ** 11 - 64])
+        for s in ([2 ** 11 - 1], [31, 2 ** 11 - 32], [31, 2 ** 10 - 32, 2 ** 10]):
+            self.refused(-8, 99, 1, ELEVEN, s)
+            self.refused(-8, 1, 2 ** 32 - 1, ELEVEN, s)

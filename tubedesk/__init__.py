@@ -1,1 +1,1 @@
-"""Judges which tubes of glass hang on which transformers."""
+"""Judges which tubes of glass hang on which transformers, and finds the fewest."""

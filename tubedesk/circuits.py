@@ -2,6 +2,7 @@
 
 from tubedesk.drawings import drawing_pieces
 from tubedesk.lengths import count_kinds_but_one, is_borne, measure
+from tubedesk.ways import first_of_fewest, need, needs_of_loads, ways_at_will
 
 TEXT_TOO_LONG = -2
 NO_DRAWING = -6
@@ -9,6 +10,7 @@ WRONG_ARGUMENTS = -1
 WRONG_TUBES = -4
 TOO_MANY_KINDS = -8
 WRONG_CIRCUITS = -9
+NO_CIRCUITS = -5
 LONGEST_TEXT = 65536
 MOST_TUBES = 8
 MOST_KINDS = 10
@@ -24,11 +26,44 @@ def are_tubes(s, count):
     return True
 
 
-def all_pieces(s):
-    together = 0
-    for tube in s:
-        together = together | tube
-    return together
+def pieces_told(t):
+    """The pieces of the drawing whose text t is, or None if it is none's or too long."""
+    if len(t) > LONGEST_TEXT:
+        return None
+    return drawing_pieces(t)
+
+
+def measures_told(t):
+    """The measures of the pieces of the drawing whose text t is, or None if it is none's or too long."""
+    pieces = pieces_told(t)
+    if pieces is None:
+        return None
+    return [measure(piece) for piece in pieces]
+
+
+def refusal_of_tubes(t, told, s, others_fit):
+    """The first that applies of -2, -6, -1 and -4, or None.
+
+    told has something for each piece, or is None without a drawing; others_fit is what -1 asks of the rest.
+    """
+    if len(t) > LONGEST_TEXT:
+        return TEXT_TOO_LONG
+    if told is None:
+        return NO_DRAWING
+    if len(s) == 0 or len(s) > MOST_TUBES or not others_fit:
+        return WRONG_ARGUMENTS
+    if not are_tubes(s, len(told)):
+        return WRONG_TUBES
+    return None
+
+
+def refusal_of_lengths(t, measures, s, others_fit):
+    """The first that applies of -2, -6, -1, -4 and -8, or None."""
+    refusal = refusal_of_tubes(t, measures, s, others_fit)
+    # No piece is in two tubes by now, so their sum is the set of all their pieces.
+    if refusal is None and count_kinds_but_one(measures, sum(s)) > MOST_KINDS:
+        return TOO_MANY_KINDS
+    return refusal
 
 
 def first_that_cannot_be(p):
@@ -43,31 +78,41 @@ def first_that_cannot_be(p):
 
 def first_not_borne(measures, s, p, c, d):
     """The first tube that with those before it on its transformer isn't borne, or None."""
-    loads = {}
+    hung = {}
     for tube, number in enumerate(p):
-        loads[number] = loads.get(number, 0) | s[tube]
-        if not is_borne(measures, loads[number], c, d):
+        hung[number] = hung.get(number, 0) | s[tube]
+        if not is_borne(measures, hung[number], c, d):
             return tube
     return None
 
 
 def judge(c, d, t, s, p):
     """How many transformers the circuits p have; or a refusal, with the tube's number behind -9."""
-    if len(t) > LONGEST_TEXT:
-        return [TEXT_TOO_LONG]
-    pieces = drawing_pieces(t)
-    if pieces is None:
-        return [NO_DRAWING]
-    if len(s) == 0 or len(s) > MOST_TUBES or c == 0 or d == 0 or len(p) != len(s):
-        return [WRONG_ARGUMENTS]
-    if not are_tubes(s, len(pieces)):
-        return [WRONG_TUBES]
-    measures = [measure(piece) for piece in pieces]
-    if count_kinds_but_one(measures, all_pieces(s)) > MOST_KINDS:
-        return [TOO_MANY_KINDS]
+    measures = measures_told(t)
+    refusal = refusal_of_lengths(t, measures, s, c > 0 and d > 0 and len(p) == len(s))
+    if refusal is not None:
+        return [refusal]
     wrong = first_that_cannot_be(p)
     if wrong is None:
         wrong = first_not_borne(measures, s, p, c, d)
     if wrong is not None:
         return [WRONG_CIRCUITS, wrong]
     return [max(p) + 1]
+
+
+def circuits_found(c, d, measures, s, ways):
+    """How many transformers, then the first of the fewest of the ways that are right; or -5."""
+    needs = needs_of_loads(measures, s, d)
+    found = first_of_fewest([p for p in ways if need(needs, s, p) <= c])
+    if found is None:
+        return [NO_CIRCUITS]
+    return [max(found) + 1] + found
+
+
+def fewest(c, d, t, s):
+    """How many transformers, then the circuits found; or a refusal."""
+    measures = measures_told(t)
+    refusal = refusal_of_lengths(t, measures, s, c > 0 and d > 0)
+    if refusal is not None:
+        return [refusal]
+    return circuits_found(c, d, measures, s, ways_at_will(len(s)))

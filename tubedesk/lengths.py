@@ -51,25 +51,29 @@ def floor_root(n):
         guess = better
 
 
-def roots_fit(squares, room):
-    """Whether the square roots together are not above room; none of the squares is a whole number's."""
+def whole_above_roots(squares):
+    """The least whole number above the square roots together; none of the squares is a whole number's."""
     bits = FIRST_BITS
-    # Roots of different kinds never add up to a whole number, so with enough bits one of the two answers comes.
+    # Roots of different kinds never add up to a whole number, so with enough bits none lies within what is unsure.
     while True:
         low = sum([floor_root(square << (2 * bits)) for square in squares])
-        target = room << bits
-        if low >= target:
-            return False
-        if low + len(squares) <= target:
-            return True
+        # Each root is above its floor by less than 1, so the last that the sum's own floor may be is this.
+        high = low + len(squares) - 1
+        if low >> bits == high >> bits:
+            return (low >> bits) + 1
         bits = 2 * bits
+
+
+def least_bearing(measures, chosen, d):
+    """The least whole number c such that the length of the set chosen is not above c / d."""
+    factors = factors_by_kind(measures, chosen)
+    whole = d * factors.get(1, 0)
+    squares = [d * d * factor * factor * kind for kind, factor in factors.items() if kind != 1]
+    if len(squares) == 0:
+        return whole
+    return whole + whole_above_roots(squares)
 
 
 def is_borne(measures, chosen, c, d):
     """Whether the length of the set chosen is not above c / d."""
-    factors = factors_by_kind(measures, chosen)
-    room = c - d * factors.get(1, 0)
-    squares = [d * d * factor * factor * kind for kind, factor in factors.items() if kind != 1]
-    if len(squares) == 0:
-        return room >= 0
-    return roots_fit(squares, room)
+    return least_bearing(measures, chosen, d) <= c
