@@ -165,3 +165,11 @@ def first_of(right):
 def found_fewest(c, d, t, s):
     refusal = refused(t, s, c > 0 and d > 0)
     return first_of(right_circuits(c, d, t, s)) if refusal is None else [refusal]
+
+
+def found_row(c, d, t, s):
+    refusal = refused(t, s, c > 0 and d > 0)
+    if refusal is not None:
+        return [refusal]
+    right = right_circuits(c, d, t, s)
+    return first_of([p for p in right if all(after - before in (0, 1) for before, after in zip(p, p[1:]))])

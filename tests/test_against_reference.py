@@ -3,8 +3,8 @@
 import random
 import unittest
 
-from tests.helper import drawing, found_fewest, judged, pieces_of, share_badly, squares_of
-from tubedesk.circuits import fewest, judge
+from tests.helper import drawing, found_fewest, found_row, judged, pieces_of, share_badly, squares_of
+from tubedesk.circuits import fewest, judge, row
 
 
 def sketch(rnd, side, count):
@@ -65,6 +65,7 @@ class AgainstReference(unittest.TestCase):
 
     def compare_found(self, c, d, t, s):
         self.assertEqual(fewest(c, d, t, s), found_fewest(c, d, t, s), (c, d, t, s))
+        self.assertEqual(row(c, d, t, s), found_row(c, d, t, s), (c, d, t, s))
 
     def test_calls(self):
         rnd = random.Random(1)

@@ -4,8 +4,8 @@ import unittest
 from fractions import Fraction
 from math import isqrt
 
-from tests.helper import bears, drawing, found_fewest, ladder, pieces_of, rungs, singles, squares_of
-from tubedesk.circuits import fewest, judge
+from tests.helper import bears, drawing, found_fewest, found_row, ladder, pieces_of, rungs, singles, squares_of
+from tubedesk.circuits import fewest, judge, row
 
 TOP = 2 ** 32 - 1
 KIND_STEPS = ((1, 1), (2, 1), (3, 1), (3, 2), (4, 1), (5, 1), (5, 2), (5, 3), (6, 1), (5, 4))
@@ -31,6 +31,7 @@ class Bounds(unittest.TestCase):
         with self.subTest(chosen=chosen, c=c, d=d):
             self.assertEqual(judge(c, d, t, [chosen], [0]), [1] if borne else [-9, 0])
             self.assertEqual(fewest(c, d, t, [chosen]), [1, 0] if borne else [-5])
+            self.assertEqual(row(c, d, t, [chosen]), [1, 0] if borne else [-5])
 
 
 class WholeLengths(Bounds):
@@ -125,8 +126,9 @@ class SeveralRoots(Bounds):
         self.assertEqual(judge(3631597458, D, t, [7, 56, 960], [0, 0, 0]), [1])
         self.assertEqual(judge(3631597457, D, t, [7, 56, 960], [0, 0, 0]), [-9, 2])
         self.assertEqual(judge(3631597457, D, t, [7, 56, 960], [0, 0, 1]), [2])
-        self.assertEqual(fewest(3631597458, D, t, [7, 56, 960]), [1, 0, 0, 0])
-        self.assertEqual(fewest(3631597457, D, t, [7, 56, 960]), [2, 0, 0, 1])
+        for call in (fewest, row):
+            self.assertEqual(call(3631597458, D, t, [7, 56, 960]), [1, 0, 0, 0])
+            self.assertEqual(call(3631597457, D, t, [7, 56, 960]), [2, 0, 0, 1])
 
 
 class Found(unittest.TestCase):
@@ -140,16 +142,22 @@ class Found(unittest.TestCase):
             with self.subTest(c=c, d=d):
                 borne = place % 2 == 1
                 self.assertEqual(fewest(c, d, t, singles(3)), [2, 0, 0, 1] if borne else [2, 0, 1, 0])
+                self.assertEqual(row(c, d, t, singles(3)), [2, 0, 0, 1] if borne else [2, 0, 1, 1])
 
     def test_whole_lengths_that_are_just_the_bound(self):
         t = rungs([3, 5, 4])
         for d in (1, 7, 357913941):
+            for call in (fewest, row):
+                with self.subTest(call=call, d=d):
+                    self.assertEqual(call(12 * d, d, t, singles(3)), [1, 0, 0, 0])
+                    self.assertEqual(call(12 * d - 1, d, t, singles(3))[0], 2)
+                    self.assertEqual(call(8 * d, d, t, singles(3)), [2, 0, 0, 1])
+                    self.assertEqual(call(5 * d, d, t, singles(3)), [3, 0, 1, 2])
+                    self.assertEqual(call(5 * d - 1, d, t, singles(3)), [-5])
             with self.subTest(d=d):
-                self.assertEqual(fewest(12 * d, d, t, singles(3)), [1, 0, 0, 0])
-                self.assertEqual(fewest(12 * d - 1, d, t, singles(3))[0], 2)
-                self.assertEqual(fewest(8 * d, d, t, singles(3)), [2, 0, 0, 1])
-                self.assertEqual(fewest(5 * d, d, t, singles(3)), [3, 0, 1, 2])
-                self.assertEqual(fewest(5 * d - 1, d, t, singles(3)), [-5])
+                self.assertEqual(fewest(8 * d - 1, d, t, singles(3)), [2, 0, 1, 0])
+                self.assertEqual(row(9 * d, d, rungs([5, 5, 4]), singles(3)), [2, 0, 1, 1])
+                self.assertEqual(row(9 * d - 1, d, rungs([5, 5, 4]), singles(3)), [3, 0, 1, 2])
 
     def test_eight_tubes_of_ten_kinds(self):
         t = ladder(KIND_STEPS)
@@ -159,3 +167,4 @@ class Found(unittest.TestCase):
             for c, d in near_fractions(squares_of(pieces_of(t), chosen))[-2:]:
                 with self.subTest(choice=choice, c=c, d=d):
                     self.assertEqual(fewest(c, d, t, s), found_fewest(c, d, t, s))
+                    self.assertEqual(row(c, d, t, s), found_row(c, d, t, s))

@@ -137,21 +137,3 @@ class Slowly(unittest.TestCase):
         borne = [count for count in told if count != -5]
         self.assertEqual(told, [-5] * (len(told) - len(borne)) + sorted(borne, reverse=True))
         self.assertEqual(sorted(set(borne)), [1, 2, 3, 4, 5, 6])
-
-
-class None5(unittest.TestCase):
-    def test_just_one_tube_alone_is_not_borne(self):
-        for count in range(1, 9):
-            for place in range(count):
-                lengths = [1] * count
-                lengths[place] = 9
-                with self.subTest(count=count, place=place):
-                    t = rungs(lengths)
-                    self.assertEqual(fewest(8, 1, t, singles(count)), [-5])
-                    self.assertGreater(fewest(9, 1, t, singles(count))[0], 0)
-
-    def test_a_tube_of_several_pieces(self):
-        t = rungs([3, 3, 3, 3])
-        self.assertEqual(fewest(8, 1, t, [1, 14]), [-5])
-        self.assertEqual(fewest(9, 1, t, [1, 14]), [2, 0, 1])
-        self.assertEqual(fewest(8, 1, t, [7, 8]), [-5])

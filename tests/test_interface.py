@@ -5,7 +5,7 @@ import time
 import unittest
 
 from tests.helper import drawing, ladder, rungs, singles
-from tubedesk.circuits import fewest, judge
+from tubedesk.circuits import fewest, judge, row
 
 TOP = 2 ** 64 - 1
 GREATEST = 2 ** 32 - 1
@@ -32,6 +32,14 @@ CALLS = (
     (fewest, (1, 1, [10] * 70000, [1]), [-2]),
     (fewest, (1, 1, rungs([1]), [2]), [-4]),
     (fewest, (1, 0, rungs([1]), [1]), [-1]),
+    (row, (5, 1, BENT, [1, 2]), [2, 0, 1]),
+    (row, (10, 1, BENT, [2, 1]), [1, 0, 0]),
+    (row, (4, 1, BENT, [2, 1]), [-5]),
+    (row, (7, 1, rungs([3, 4, 2, 1, 4]), [1, 8, 2, 4, 16]), [3, 0, 0, 1, 1, 2]),
+    (row, (1, 1, drawing("0,0 3,4 0,0"), [1]), [-6]),
+    (row, (1, 1, [10] * 70000, [1]), [-2]),
+    (row, (1, 1, rungs([1]), [2]), [-4]),
+    (row, (1, 0, rungs([1]), [1]), [-1]),
 )
 
 
@@ -47,20 +55,23 @@ class Locked(list):
 
 class Edges(unittest.TestCase):
     def test_arguments_are_called_as_told(self):
-        for call, names in ((judge, "cdtsp"), (fewest, "cdts")):
+        for call, names in ((judge, "cdtsp"), (fewest, "cdts"), (row, "cdts")):
             self.assertEqual(list(inspect.signature(call).parameters), list(names))
         self.assertEqual(judge(p=[0], s=[1], t=rungs([2]), d=1, c=2), [1])
         self.assertEqual(fewest(s=[1], t=rungs([2]), d=1, c=2), [1, 0])
+        self.assertEqual(row(s=[1], t=rungs([2]), d=1, c=2), [1, 0])
 
     def test_70000_bytes(self):
         for t, wanted in (([0] * 70000, [-2]), ([255] * 70000, [-2]), (list(range(256)), [-6])):
             self.assertEqual(judge(1, 1, t, [1], [0]), wanted)
             self.assertEqual(fewest(1, 1, t, [1]), wanted)
+            self.assertEqual(row(1, 1, t, [1]), wanted)
 
     def test_16_numbers(self):
         for t, s in ((rungs([1] * 16), singles(16)), (rungs([1]), [TOP] * 16)):
             self.assertEqual(judge(1, 1, t, s, [0] * 16), [-1])
             self.assertEqual(fewest(1, 1, t, s), [-1])
+            self.assertEqual(row(1, 1, t, s), [-1])
         self.assertEqual(judge(1, 1, rungs([1]), [TOP] * 16, [255] * 16), [-1])
         self.assertEqual(judge(1, 1, rungs([1]), [TOP] * 16, []), [-1])
         self.assertEqual(judge(1, 1, rungs([1]), [], [255] * 16), [-1])
@@ -72,21 +83,25 @@ class Edges(unittest.TestCase):
         self.assertEqual(judge(GREATEST, 1, ROW, [TOP - 1, 1], [0, 1]), [2])
         self.assertEqual(judge(GREATEST, 1, rungs([1]), [TOP], [0]), [-4])
 
-    def test_greatest_numbers_of_fewest(self):
-        self.assertEqual(fewest(GREATEST, 1, ROW, [TOP]), [1, 0])
-        self.assertEqual(fewest(64, 1, ROW, [TOP]), [1, 0])
-        self.assertEqual(fewest(63, 1, ROW, [TOP]), [-5])
-        self.assertEqual(fewest(63, 1, ROW, [TOP - 1, 1]), [2, 0, 1])
-        self.assertEqual(fewest(GREATEST, GREATEST, ROW, [TOP]), [-5])
-        self.assertEqual(fewest(GREATEST, GREATEST, ROW, [1 << 63, 1]), [2, 0, 1])
-        self.assertEqual(fewest(GREATEST, 1, rungs([1]), [TOP]), [-4])
+    def test_greatest_numbers_where_circuits_are_found(self):
+        for call in (fewest, row):
+            with self.subTest(call=call):
+                self.assertEqual(call(GREATEST, 1, ROW, [TOP]), [1, 0])
+                self.assertEqual(call(64, 1, ROW, [TOP]), [1, 0])
+                self.assertEqual(call(63, 1, ROW, [TOP]), [-5])
+                self.assertEqual(call(63, 1, ROW, [TOP - 1, 1]), [2, 0, 1])
+                self.assertEqual(call(GREATEST, GREATEST, ROW, [TOP]), [-5])
+                self.assertEqual(call(GREATEST, GREATEST, ROW, [1 << 63, 1]), [2, 0, 1])
+                self.assertEqual(call(GREATEST, 1, rungs([1]), [TOP]), [-4])
 
     def test_eight_tubes_of_ten_kinds_in_a_few_seconds(self):
         start = time.monotonic()
         for d in (1, 650011, 2 ** 20):
             self.assertEqual(fewest(4000 * d, d, TEN_KINDS, EIGHT_TUBES), [1] + [0] * 8)
             self.assertEqual(fewest(1800 * d, d, TEN_KINDS, EIGHT_TUBES), [2, 0, 0, 0, 1, 1, 1, 0, 1])
-        self.assertLess(time.monotonic() - start, 6 * 3)
+            self.assertEqual(row(4000 * d, d, TEN_KINDS, EIGHT_TUBES), [1] + [0] * 8)
+            self.assertEqual(row(1800 * d, d, TEN_KINDS, EIGHT_TUBES), [3, 0, 0, 0, 0, 1, 1, 1, 2])
+        self.assertLess(time.monotonic() - start, 12 * 3)
 
     def test_a_list_of_whole_numbers_is_given_back(self):
         for call, given, wanted in CALLS:

@@ -3,7 +3,7 @@
 import unittest
 
 from tests.helper import as_bytes, drawing, ladder, rungs, singles
-from tubedesk.circuits import fewest, judge
+from tubedesk.circuits import fewest, judge, row
 
 TOP = 2 ** 64 - 1
 # Of these pieces the kinds are 2, 5, 10, 17, 26, 37, 65, 82, 101, 122 and 145.
@@ -15,6 +15,7 @@ LINE = drawing("0,0 1,0")
 CALLS = {
     "judge": lambda c, d, t, s: judge(c, d, t, s, [0] * len(s)),
     "fewest": fewest,
+    "row": row,
 }
 
 
@@ -202,3 +203,47 @@ class EveryCall(unittest.TestCase):
         for s in ([2 ** 11 - 1], [31, 2 ** 11 - 32], [31, 2 ** 10 - 32, 2 ** 10]):
             self.refused(-8, 99, 1, ELEVEN, s)
             self.refused(-8, 1, 2 ** 32 - 1, ELEVEN, s)
+
+
+class None5(unittest.TestCase):
+    def test_just_one_tube_alone_is_not_borne(self):
+        for count in range(1, 9):
+            for place in range(count):
+                lengths = [1] * count
+                lengths[place] = 9
+                t = rungs(lengths)
+                for call in (fewest, row):
+                    with self.subTest(call=call, count=count, place=place):
+                        self.assertEqual(call(8, 1, t, singles(count)), [-5])
+                        self.assertGreater(call(9, 1, t, singles(count))[0], 0)
+
+    def test_a_tube_of_several_pieces(self):
+        t = rungs([3, 3, 3, 3])
+        for call in (fewest, row):
+            with self.subTest(call=call):
+                self.assertEqual(call(8, 1, t, [1, 14]), [-5])
+                self.assertEqual(call(9, 1, t, [1, 14]), [2, 0, 1])
+                self.assertEqual(call(8, 1, t, [7, 8]), [-5])
+                self.assertEqual(call(9, 1, t, [7, 8]), [2, 0, 1])
+
+    def test_by_a_hair(self):
+        # 1855077841 ** 2 is 2 * 1311738121 ** 2 - 1; 768398401 ** 2 is 2 * 543339720 ** 2 + 1.
+        for place in range(3):
+            steps = [(1, 0)] * 3
+            steps[place] = (1, 1)
+            for call in (fewest, row):
+                with self.subTest(call=call, place=place):
+                    self.assertEqual(call(1855077841, 1311738121, ladder(steps), singles(3)), [-5])
+                    self.assertEqual(call(768398401, 543339720, ladder(steps), singles(3)), [3, 0, 1, 2])
+
+    def test_all_else_goes_ahead(self):
+        long = drawing("0,0 5,0")
+        for call in (fewest, row):
+            with self.subTest(call=call):
+                self.assertEqual(call(1, 1, long, [1]), [-5])
+                self.assertEqual(call(1, 1, long + [10] * 65536, [1]), [-2])
+                self.assertEqual(call(1, 1, long + [10], [1]), [-6])
+                self.assertEqual(call(1, 0, long, [1]), [-1])
+                self.assertEqual(call(1, 1, long, [1, 2]), [-4])
+                self.assertEqual(call(1, 1, ELEVEN, [2 ** 11 - 1]), [-8])
+                self.assertEqual(call(1, 1, ELEVEN, [2 ** 10 - 1]), [-5])

@@ -2,7 +2,7 @@
 
 from tubedesk.drawings import drawing_pieces
 from tubedesk.lengths import count_kinds_but_one, is_borne, measure
-from tubedesk.ways import first_of_fewest, need, needs_of_loads, ways_at_will
+from tubedesk.ways import first_of_fewest, need, needs_of_loads, ways_at_will, ways_in_a_row
 
 TEXT_TOO_LONG = -2
 NO_DRAWING = -6
@@ -116,3 +116,12 @@ def fewest(c, d, t, s):
     if refusal is not None:
         return [refusal]
     return circuits_found(c, d, measures, s, ways_at_will(len(s)))
+
+
+def row(c, d, t, s):
+    """How many transformers, then the circuits found in a row; or a refusal."""
+    measures = measures_told(t)
+    refusal = refusal_of_lengths(t, measures, s, c > 0 and d > 0)
+    if refusal is not None:
+        return [refusal]
+    return circuits_found(c, d, measures, s, ways_in_a_row(len(s)))

@@ -18,6 +18,18 @@ def ways_at_will(count):
     return ways
 
 
+def ways_in_a_row(count):
+    """All circuits in a row for so many tubes, one or more."""
+    ways = [[0]]
+    for tube in range(1, count):
+        longer = []
+        for p in ways:
+            longer.append(p + [p[-1]])
+            longer.append(p + [p[-1] + 1])
+        ways = longer
+    return ways
+
+
 def loads(s, p):
     """For each transformer of the circuits p, by its number, the set of all pieces on it."""
     together = {}
