@@ -104,7 +104,7 @@ def bears(squares, c, d):
     return low < room
 
 
-def refused(t, s, rest_fits):
+def refused(t, s, rest_fits, most_kinds=10):
     """The refusal that comes first, if one does that isn't about circuits, or None."""
     if len(t) > 65536:
         return -2
@@ -117,7 +117,7 @@ def refused(t, s, rest_fits):
     flat = [i for tube in held for i in tube]
     if [] in held or len(flat) != len(set(flat)) or max(flat) >= len(pieces):
         return -4
-    if len({kind_of(n) for tube in s for n in squares_of(pieces, tube)} - {1}) > 10:
+    if len({kind_of(n) for tube in s for n in squares_of(pieces, tube)} - {1}) > most_kinds:
         return -8
     return None
 
@@ -173,3 +173,10 @@ def found_row(c, d, t, s):
         return [refusal]
     right = right_circuits(c, d, t, s)
     return first_of([p for p in right if all(after - before in (0, 1) for before, after in zip(p, p[1:]))])
+
+
+def loaded(k, t, s, p):
+    refusal = refused(t, s, len(p) == len(s), most_kinds=64)
+    if refusal is not None:
+        return [refusal]
+    return [0, sum(s[i] for i in range(len(s)) if p[i] == k)] if k in p else [-4]

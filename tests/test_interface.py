@@ -5,7 +5,7 @@ import time
 import unittest
 
 from tests.helper import drawing, ladder, rungs, singles
-from tubedesk.circuits import fewest, judge, row
+from tubedesk.circuits import fewest, judge, load, row
 
 TOP = 2 ** 64 - 1
 GREATEST = 2 ** 32 - 1
@@ -40,6 +40,13 @@ CALLS = (
     (row, (1, 1, [10] * 70000, [1]), [-2]),
     (row, (1, 1, rungs([1]), [2]), [-4]),
     (row, (1, 0, rungs([1]), [1]), [-1]),
+    (load, (0, BENT, [1, 2], [0, 0]), [0, 3]),
+    (load, (200, BENT, [2, 1], [0, 200]), [0, 1]),
+    (load, (1, BENT, [2, 1], [0, 200]), [-4]),
+    (load, (0, drawing("0,0 3,4 0,0"), [1], [0]), [-6]),
+    (load, (0, [10] * 70000, [1], [0]), [-2]),
+    (load, (0, rungs([1]), [2], [0]), [-4]),
+    (load, (0, rungs([1]), [1], [0, 0]), [-1]),
 )
 
 
@@ -55,23 +62,30 @@ class Locked(list):
 
 class Edges(unittest.TestCase):
     def test_arguments_are_called_as_told(self):
-        for call, names in ((judge, "cdtsp"), (fewest, "cdts"), (row, "cdts")):
+        for call, names in ((judge, "cdtsp"), (fewest, "cdts"), (row, "cdts"), (load, "ktsp")):
             self.assertEqual(list(inspect.signature(call).parameters), list(names))
         self.assertEqual(judge(p=[0], s=[1], t=rungs([2]), d=1, c=2), [1])
         self.assertEqual(fewest(s=[1], t=rungs([2]), d=1, c=2), [1, 0])
         self.assertEqual(row(s=[1], t=rungs([2]), d=1, c=2), [1, 0])
+        self.assertEqual(load(p=[7], s=[1], t=rungs([2]), k=7), [0, 1])
 
     def test_70000_bytes(self):
         for t, wanted in (([0] * 70000, [-2]), ([255] * 70000, [-2]), (list(range(256)), [-6])):
             self.assertEqual(judge(1, 1, t, [1], [0]), wanted)
             self.assertEqual(fewest(1, 1, t, [1]), wanted)
             self.assertEqual(row(1, 1, t, [1]), wanted)
+            self.assertEqual(load(0, t, [1], [0]), wanted)
 
     def test_16_numbers(self):
         for t, s in ((rungs([1] * 16), singles(16)), (rungs([1]), [TOP] * 16)):
             self.assertEqual(judge(1, 1, t, s, [0] * 16), [-1])
             self.assertEqual(fewest(1, 1, t, s), [-1])
             self.assertEqual(row(1, 1, t, s), [-1])
+            self.assertEqual(load(0, t, s, [0] * 16), [-1])
+            self.assertEqual(load(GREATEST, t, s, [255] * 16), [-1])
+            self.assertEqual(load(0, t, s, []), [-1])
+            self.assertEqual(load(0, t, [], [0] * 16), [-1])
+            self.assertEqual(load(0, t, [1], [0] * 16), [-1])
         self.assertEqual(judge(1, 1, rungs([1]), [TOP] * 16, [255] * 16), [-1])
         self.assertEqual(judge(1, 1, rungs([1]), [TOP] * 16, []), [-1])
         self.assertEqual(judge(1, 1, rungs([1]), [], [255] * 16), [-1])
@@ -93,6 +107,14 @@ class Edges(unittest.TestCase):
                 self.assertEqual(call(GREATEST, GREATEST, ROW, [TOP]), [-5])
                 self.assertEqual(call(GREATEST, GREATEST, ROW, [1 << 63, 1]), [2, 0, 1])
                 self.assertEqual(call(GREATEST, 1, rungs([1]), [TOP]), [-4])
+
+    def test_greatest_sets_of_load(self):
+        self.assertEqual(load(0, ROW, [TOP], [0]), [0, TOP])
+        self.assertEqual(load(255, ROW, [TOP], [255]), [0, TOP])
+        self.assertEqual(load(GREATEST, ROW, [TOP], [255]), [-4])
+        self.assertEqual(load(9, ROW, EIGHT_TUBES, [9] * 8), [0, TOP])
+        self.assertEqual(load(9, ROW, [1 << 63, TOP >> 1], [9, 8]), [0, 1 << 63])
+        self.assertEqual(load(0, rungs([1]), [TOP], [0]), [-4])
 
     def test_eight_tubes_of_ten_kinds_in_a_few_seconds(self):
         start = time.monotonic()

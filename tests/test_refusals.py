@@ -3,7 +3,7 @@
 import unittest
 
 from tests.helper import as_bytes, drawing, ladder, rungs, singles
-from tubedesk.circuits import fewest, judge, row
+from tubedesk.circuits import fewest, judge, load, row
 
 TOP = 2 ** 64 - 1
 # Of these pieces the kinds are 2, 5, 10, 17, 26, 37, 65, 82, 101, 122 and 145.
@@ -12,11 +12,14 @@ EIGHT_RUNGS = rungs([1] * 9)
 GARBAGE = as_bytes("garbage\n")
 LINE = drawing("0,0 1,0")
 # Each call as one of a bound, a text and tubes alone.
-CALLS = {
+ALL_CALLS = {
     "judge": lambda c, d, t, s: judge(c, d, t, s, [0] * len(s)),
     "fewest": fewest,
     "row": row,
+    "load": lambda c, d, t, s: load(0, t, s, [0] * len(s)),
 }
+# Those that look at lengths, and so at a bound.
+LENGTH_CALLS = {name: call for name, call in ALL_CALLS.items() if name != "load"}
 
 
 class Wrong1(unittest.TestCase):
@@ -139,15 +142,15 @@ class Order(unittest.TestCase):
 
 
 class EveryCall(unittest.TestCase):
-    """What is refused in every call alike, and ahead of what else."""
+    """What is refused in every call alike, or in all that look at lengths, and ahead of what else."""
 
-    def refused(self, refusal, c, d, t, s):
-        for name, call in CALLS.items():
+    def refused(self, refusal, c, d, t, s, calls=ALL_CALLS):
+        for name, call in calls.items():
             with self.subTest(call=name, c=c, d=d, t=t[:30], s=s):
                 self.assertEqual(call(c, d, t, s), [refusal])
 
-    def taken(self, c, d, t, s):
-        for name, call in CALLS.items():
+    def taken(self, c, d, t, s, calls=ALL_CALLS):
+        for name, call in calls.items():
             with self.subTest(call=name, c=c, d=d, t=t[:30], s=s):
                 self.assertGreaterEqual(call(c, d, t, s)[0], 0)
 
@@ -180,13 +183,13 @@ class EveryCall(unittest.TestCase):
 
     def test_1_of_bounds(self):
         self.taken(1, 1, LINE, [1])
-        self.refused(-1, 0, 1, LINE, [1])
-        self.refused(-1, 1, 0, LINE, [1])
-        self.refused(-1, 0, 0, LINE, [1])
-        self.refused(-1, 0, 2 ** 32 - 1, LINE, [0])
-        self.refused(-1, 2 ** 32 - 1, 0, LINE, [2])
-        self.refused(-1, 0, 1, ELEVEN, [2 ** 11 - 1])
-        self.refused(-1, 0, 1, drawing("0,0 5,0"), [1])
+        self.refused(-1, 0, 1, LINE, [1], LENGTH_CALLS)
+        self.refused(-1, 1, 0, LINE, [1], LENGTH_CALLS)
+        self.refused(-1, 0, 0, LINE, [1], LENGTH_CALLS)
+        self.refused(-1, 0, 2 ** 32 - 1, LINE, [0], LENGTH_CALLS)
+        self.refused(-1, 2 ** 32 - 1, 0, LINE, [2], LENGTH_CALLS)
+        self.refused(-1, 0, 1, ELEVEN, [2 ** 11 - 1], LENGTH_CALLS)
+        self.refused(-1, 0, 1, drawing("0,0 5,0"), [1], LENGTH_CALLS)
 
     def test_4(self):
         for s in ([2], [TOP], [1, 2], [0], [1, 0], [0, 1], [1, 1], [1 << 63, 1]):
@@ -201,8 +204,9 @@ class EveryCall(unittest.TestCase):
         self.taken(99, 1, ELEVEN, [2 ** 10 - 1])
         self.taken(99, 1, ELEVEN, [31, 2 ** 11 - 64])
         for s in ([2 ** 11 - 1], [31, 2 ** 11 - 32], [31, 2 ** 10 - 32, 2 ** 10]):
-            self.refused(-8, 99, 1, ELEVEN, s)
-            self.refused(-8, 1, 2 ** 32 - 1, ELEVEN, s)
+            self.refused(-8, 99, 1, ELEVEN, s, LENGTH_CALLS)
+            self.refused(-8, 1, 2 ** 32 - 1, ELEVEN, s, LENGTH_CALLS)
+            self.taken(99, 1, ELEVEN, s, {"load": ALL_CALLS["load"]})
 
 
 class None5(unittest.TestCase):

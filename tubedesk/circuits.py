@@ -2,7 +2,7 @@
 
 from tubedesk.drawings import drawing_pieces
 from tubedesk.lengths import count_kinds_but_one, is_borne, measure
-from tubedesk.ways import first_of_fewest, need, needs_of_loads, ways_at_will, ways_in_a_row
+from tubedesk.ways import first_of_fewest, loads, need, needs_of_loads, ways_at_will, ways_in_a_row
 
 TEXT_TOO_LONG = -2
 NO_DRAWING = -6
@@ -125,3 +125,14 @@ def row(c, d, t, s):
     if refusal is not None:
         return [refusal]
     return circuits_found(c, d, measures, s, ways_in_a_row(len(s)))
+
+
+def load(k, t, s, p):
+    """0, then the set of all pieces on transformer k of the circuits p, right or not; or a refusal."""
+    refusal = refusal_of_tubes(t, pieces_told(t), s, len(p) == len(s))
+    if refusal is not None:
+        return [refusal]
+    together = loads(s, p).get(k)
+    if together is None:
+        return [WRONG_TUBES]
+    return [0, together]
