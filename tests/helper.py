@@ -44,6 +44,15 @@ def singles(count):
     return [1 << i for i in range(count)]
 
 
+def some_sign(rnd, count):
+    """A text and as many tubes, of one piece each and four more among them; hardly any length is whole."""
+    t = ladder([(rnd.randint(1, 5), rnd.randint(0, 3)) for piece in range(count + 4)])
+    s = singles(count)
+    for piece in range(count, count + 4):
+        s[rnd.randrange(count)] |= 1 << piece
+    return t, s
+
+
 def share_badly(one, other):
     (ax, ay), (bx, by) = one
     (cx, cy), (dx, dy) = other
@@ -180,3 +189,18 @@ def loaded(k, t, s, p):
     if refusal is not None:
         return [refusal]
     return [0, sum(s[i] for i in range(len(s)) if p[i] == k)] if k in p else [-4]
+
+
+def least_told(k, d, t, s):
+    refusal = refused(t, s, k > 0 and d > 0)
+    if refusal is not None:
+        return [refusal]
+    # 64 pieces are together shorter than 2 ** 19, so the least c lies above too_small and not above enough.
+    too_small, enough = 0, d << 19
+    while enough - too_small > 1:
+        c = (too_small + enough) // 2
+        if any(len(set(p)) <= k for p in right_circuits(c, d, t, s)):
+            enough = c
+        else:
+            too_small = c
+    return [0, enough]

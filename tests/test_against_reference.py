@@ -3,8 +3,9 @@
 import random
 import unittest
 
-from tests.helper import drawing, found_fewest, found_row, judged, loaded, pieces_of, share_badly, squares_of
-from tubedesk.circuits import fewest, judge, load, row
+from tests.helper import (drawing, found_fewest, found_row, judged, least_told, loaded, pieces_of, share_badly,
+                          squares_of)
+from tubedesk.circuits import fewest, judge, least, load, row
 
 
 def sketch(rnd, side, count):
@@ -79,6 +80,9 @@ class AgainstReference(unittest.TestCase):
             call = (c, d, t, s, circuits(rnd, len(s)))
             self.compare(call)
             self.compare_found(c, d, t, s)
+            if attempt % 10 == 0:
+                k = rnd.randrange(6)
+                self.assertEqual(least(k, d, t, s), least_told(k, d, t, s), (k, d, t, s))
             for k in (0, rnd.randrange(4), 2 ** 32 - 1):
                 self.assertEqual(load(k, *call[2:]), loaded(k, *call[2:]), (k, call))
             for first in (judge(*call)[0], fewest(*call[:4])[0]):

@@ -4,8 +4,9 @@ import unittest
 from fractions import Fraction
 from math import isqrt
 
-from tests.helper import bears, drawing, found_fewest, found_row, ladder, pieces_of, rungs, singles, squares_of
-from tubedesk.circuits import fewest, judge, row
+from tests.helper import (bears, drawing, found_fewest, found_row, ladder, least_told, pieces_of, rungs, singles,
+                          squares_of)
+from tubedesk.circuits import fewest, judge, least, row
 
 TOP = 2 ** 32 - 1
 KIND_STEPS = ((1, 1), (2, 1), (3, 1), (3, 2), (4, 1), (5, 1), (5, 2), (5, 3), (6, 1), (5, 4))
@@ -32,6 +33,7 @@ class Bounds(unittest.TestCase):
             self.assertEqual(judge(c, d, t, [chosen], [0]), [1] if borne else [-9, 0])
             self.assertEqual(fewest(c, d, t, [chosen]), [1, 0] if borne else [-5])
             self.assertEqual(row(c, d, t, [chosen]), [1, 0] if borne else [-5])
+            self.assertEqual(least(1, d, t, [chosen])[1] <= c, borne)
 
 
 class WholeLengths(Bounds):
@@ -107,6 +109,7 @@ class SeveralRoots(Bounds):
             for place, (c, d) in enumerate(found):
                 self.check(t, everything, c, d, place % 2 == 1)
                 self.assertEqual(bears(squares, c, d), place % 2 == 1)
+                self.assertEqual(least(1, d, t, [everything]), [0, c if place % 2 == 1 else c + 1])
 
     def test_ten_kinds_nearer_than_floats_or_long_decimals_tell(self):
         # d times the length is above c by less than 2 ** -76, or below it by as little.
@@ -119,6 +122,8 @@ class SeveralRoots(Bounds):
             self.check(t, 1023, c, D, borne)
             self.check(t, 1023, c + 1, D, True)
             self.check(t, 1023, c - 1, D, False)
+            self.assertEqual(least(1, D, t, [1023]), [0, c if borne else c + 1])
+            self.assertEqual(least(1, D, t, singles(7) + [7 << 7]), [0, c if borne else c + 1])
 
     def test_tubes_of_one_transformer_are_added_up(self):
         factors = (599, 98, 215, 380, 43, 221, 46, 108, 37, 10)
@@ -144,6 +149,14 @@ class Found(unittest.TestCase):
                 self.assertEqual(fewest(c, d, t, singles(3)), [2, 0, 0, 1] if borne else [2, 0, 1, 0])
                 self.assertEqual(row(c, d, t, singles(3)), [2, 0, 0, 1] if borne else [2, 0, 1, 1])
 
+    def test_three_tubes_at_the_least_bound(self):
+        t = ladder([(1, 1), (2, 1), (1, 0)])
+        # On two transformers the tubes of root 2 and of 1 hang together; root 5 is shorter.
+        for k, squares in ((1, [2, 5, 1]), (2, [2, 1]), (3, [5])):
+            for place, (c, d) in enumerate(near_fractions(squares)[2:]):
+                with self.subTest(k=k, c=c, d=d):
+                    self.assertEqual(least(k, d, t, singles(3)), [0, c if place % 2 == 1 else c + 1])
+
     def test_whole_lengths_that_are_just_the_bound(self):
         t = rungs([3, 5, 4])
         for d in (1, 7, 357913941):
@@ -155,6 +168,7 @@ class Found(unittest.TestCase):
                     self.assertEqual(call(5 * d, d, t, singles(3)), [3, 0, 1, 2])
                     self.assertEqual(call(5 * d - 1, d, t, singles(3)), [-5])
             with self.subTest(d=d):
+                self.assertEqual([least(k, d, t, singles(3)) for k in (1, 2, 3)], [[0, 12 * d], [0, 7 * d], [0, 5 * d]])
                 self.assertEqual(fewest(8 * d - 1, d, t, singles(3)), [2, 0, 1, 0])
                 self.assertEqual(row(9 * d, d, rungs([5, 5, 4]), singles(3)), [2, 0, 1, 1])
                 self.assertEqual(row(9 * d - 1, d, rungs([5, 5, 4]), singles(3)), [3, 0, 1, 2])
@@ -168,3 +182,5 @@ class Found(unittest.TestCase):
                 with self.subTest(choice=choice, c=c, d=d):
                     self.assertEqual(fewest(c, d, t, s), found_fewest(c, d, t, s))
                     self.assertEqual(row(c, d, t, s), found_row(c, d, t, s))
+                    k = choice % 8 + 1
+                    self.assertEqual(least(k, d, t, s), least_told(k, d, t, s))

@@ -5,7 +5,7 @@ import time
 import unittest
 
 from tests.helper import drawing, ladder, rungs, singles
-from tubedesk.circuits import fewest, judge, load, row
+from tubedesk.circuits import fewest, judge, least, load, row
 
 TOP = 2 ** 64 - 1
 GREATEST = 2 ** 32 - 1
@@ -47,6 +47,13 @@ CALLS = (
     (load, (0, [10] * 70000, [1], [0]), [-2]),
     (load, (0, rungs([1]), [2], [0]), [-4]),
     (load, (0, rungs([1]), [1], [0, 0]), [-1]),
+    (least, (1, 1, BENT, [1, 2]), [0, 10]),
+    (least, (2, 3, BENT, [2, 1]), [0, 15]),
+    (least, (2, 1, rungs([3, 4, 2, 1, 4]), [1, 8, 2, 4, 16]), [0, 7]),
+    (least, (1, 1, drawing("0,0 3,4 0,0"), [1]), [-6]),
+    (least, (1, 1, [10] * 70000, [1]), [-2]),
+    (least, (1, 1, rungs([1]), [2]), [-4]),
+    (least, (0, 1, rungs([1]), [1]), [-1]),
 )
 
 
@@ -62,12 +69,13 @@ class Locked(list):
 
 class Edges(unittest.TestCase):
     def test_arguments_are_called_as_told(self):
-        for call, names in ((judge, "cdtsp"), (fewest, "cdts"), (row, "cdts"), (load, "ktsp")):
+        for call, names in ((judge, "cdtsp"), (fewest, "cdts"), (row, "cdts"), (load, "ktsp"), (least, "kdts")):
             self.assertEqual(list(inspect.signature(call).parameters), list(names))
         self.assertEqual(judge(p=[0], s=[1], t=rungs([2]), d=1, c=2), [1])
         self.assertEqual(fewest(s=[1], t=rungs([2]), d=1, c=2), [1, 0])
         self.assertEqual(row(s=[1], t=rungs([2]), d=1, c=2), [1, 0])
         self.assertEqual(load(p=[7], s=[1], t=rungs([2]), k=7), [0, 1])
+        self.assertEqual(least(s=[1], t=rungs([2]), d=3, k=7), [0, 6])
 
     def test_70000_bytes(self):
         for t, wanted in (([0] * 70000, [-2]), ([255] * 70000, [-2]), (list(range(256)), [-6])):
@@ -75,12 +83,14 @@ class Edges(unittest.TestCase):
             self.assertEqual(fewest(1, 1, t, [1]), wanted)
             self.assertEqual(row(1, 1, t, [1]), wanted)
             self.assertEqual(load(0, t, [1], [0]), wanted)
+            self.assertEqual(least(1, 1, t, [1]), wanted)
 
     def test_16_numbers(self):
         for t, s in ((rungs([1] * 16), singles(16)), (rungs([1]), [TOP] * 16)):
             self.assertEqual(judge(1, 1, t, s, [0] * 16), [-1])
             self.assertEqual(fewest(1, 1, t, s), [-1])
             self.assertEqual(row(1, 1, t, s), [-1])
+            self.assertEqual(least(1, 1, t, s), [-1])
             self.assertEqual(load(0, t, s, [0] * 16), [-1])
             self.assertEqual(load(GREATEST, t, s, [255] * 16), [-1])
             self.assertEqual(load(0, t, s, []), [-1])
@@ -116,6 +126,14 @@ class Edges(unittest.TestCase):
         self.assertEqual(load(9, ROW, [1 << 63, TOP >> 1], [9, 8]), [0, 1 << 63])
         self.assertEqual(load(0, rungs([1]), [TOP], [0]), [-4])
 
+    def test_greatest_numbers_of_least(self):
+        self.assertEqual(least(1, 1, ROW, [TOP]), [0, 64])
+        self.assertEqual(least(GREATEST, 1, ROW, [TOP]), [0, 64])
+        self.assertEqual(least(GREATEST, GREATEST, ROW, [TOP]), [0, 64 * GREATEST])
+        self.assertEqual(least(GREATEST, GREATEST, rungs([4095] * 64), [TOP]), [0, 64 * 4095 * GREATEST])
+        self.assertEqual(least(2, GREATEST, ROW, [TOP - 1, 1]), [0, 63 * GREATEST])
+        self.assertEqual(least(GREATEST, GREATEST, rungs([1]), [TOP]), [-4])
+
     def test_eight_tubes_of_ten_kinds_in_a_few_seconds(self):
         start = time.monotonic()
         for d in (1, 650011, 2 ** 20):
@@ -123,6 +141,8 @@ class Edges(unittest.TestCase):
             self.assertEqual(fewest(1800 * d, d, TEN_KINDS, EIGHT_TUBES), [2, 0, 0, 0, 1, 1, 1, 0, 1])
             self.assertEqual(row(4000 * d, d, TEN_KINDS, EIGHT_TUBES), [1] + [0] * 8)
             self.assertEqual(row(1800 * d, d, TEN_KINDS, EIGHT_TUBES), [3, 0, 0, 0, 0, 1, 1, 1, 2])
+            self.assertEqual(least(8, d, TEN_KINDS, EIGHT_TUBES), least(8, d, TEN_KINDS, EIGHT_TUBES[7:]))
+            self.assertEqual(least(1, d, TEN_KINDS, EIGHT_TUBES), least(1, d, TEN_KINDS, [TOP]))
         self.assertLess(time.monotonic() - start, 12 * 3)
 
     def test_a_list_of_whole_numbers_is_given_back(self):

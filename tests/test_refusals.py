@@ -3,7 +3,7 @@
 import unittest
 
 from tests.helper import as_bytes, drawing, ladder, rungs, singles
-from tubedesk.circuits import fewest, judge, load, row
+from tubedesk.circuits import fewest, judge, least, load, row
 
 TOP = 2 ** 64 - 1
 # Of these pieces the kinds are 2, 5, 10, 17, 26, 37, 65, 82, 101, 122 and 145.
@@ -11,12 +11,13 @@ ELEVEN = ladder([(n, 1) for n in (1, 2, 3, 4, 5, 6, 8, 9, 10, 11, 12)])
 EIGHT_RUNGS = rungs([1] * 9)
 GARBAGE = as_bytes("garbage\n")
 LINE = drawing("0,0 1,0")
-# Each call as one of a bound, a text and tubes alone.
+# Each call as one of a bound, a text and tubes alone; c is k of least.
 ALL_CALLS = {
     "judge": lambda c, d, t, s: judge(c, d, t, s, [0] * len(s)),
     "fewest": fewest,
     "row": row,
     "load": lambda c, d, t, s: load(0, t, s, [0] * len(s)),
+    "least": least,
 }
 # Those that look at lengths, and so at a bound.
 LENGTH_CALLS = {name: call for name, call in ALL_CALLS.items() if name != "load"}

@@ -3,7 +3,7 @@
 import random
 import unittest
 
-from tests.helper import drawing, found_row, ladder, right_circuits, rungs, singles
+from tests.helper import drawing, found_row, ladder, right_circuits, rungs, singles, some_sign
 from tubedesk.circuits import fewest, judge, row
 
 
@@ -110,12 +110,9 @@ class Slowly(unittest.TestCase):
     def test_roots_with_many_bounds(self):
         rnd = random.Random(22)
         for count in range(1, 9):
-            extents = [(rnd.randint(1, 4), rnd.randint(0, 3)) for piece in range(count + 4)]
-            s = singles(count)
-            for piece in range(count, count + 4):
-                s[rnd.randrange(count)] |= 1 << piece
+            t, s = some_sign(rnd, count)
             for c in range(2, 60, 3):
-                self.compare(c, rnd.choice((1, 2, 3)), ladder(extents), s)
+                self.compare(c, rnd.choice((1, 2, 3)), t, s)
 
     def test_a_greater_bound_needs_no_more(self):
         t = ladder([(1, 1), (5, 2), (2, 1), (4, 1), (3, 1), (3, 4), (3, 2), (5, 1)])

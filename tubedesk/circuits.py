@@ -100,8 +100,13 @@ def judge(c, d, t, s, p):
     return [max(p) + 1]
 
 
-def circuits_found(c, d, measures, s, ways):
-    """How many transformers, then the first of the fewest of the ways that are right; or -5."""
+def circuits_found(c, d, t, s, in_a_row):
+    """How many transformers, then the circuits found, at will or in a row; or a refusal."""
+    measures = measures_told(t)
+    refusal = refusal_of_lengths(t, measures, s, c > 0 and d > 0)
+    if refusal is not None:
+        return [refusal]
+    ways = ways_in_a_row(len(s)) if in_a_row else ways_at_will(len(s))
     needs = needs_of_loads(measures, s, d)
     found = first_of_fewest([p for p in ways if need(needs, s, p) <= c])
     if found is None:
@@ -111,20 +116,12 @@ def circuits_found(c, d, measures, s, ways):
 
 def fewest(c, d, t, s):
     """How many transformers, then the circuits found; or a refusal."""
-    measures = measures_told(t)
-    refusal = refusal_of_lengths(t, measures, s, c > 0 and d > 0)
-    if refusal is not None:
-        return [refusal]
-    return circuits_found(c, d, measures, s, ways_at_will(len(s)))
+    return circuits_found(c, d, t, s, False)
 
 
 def row(c, d, t, s):
     """How many transformers, then the circuits found in a row; or a refusal."""
-    measures = measures_told(t)
-    refusal = refusal_of_lengths(t, measures, s, c > 0 and d > 0)
-    if refusal is not None:
-        return [refusal]
-    return circuits_found(c, d, measures, s, ways_in_a_row(len(s)))
+    return circuits_found(c, d, t, s, True)
 
 
 def load(k, t, s, p):
@@ -136,3 +133,13 @@ def load(k, t, s, p):
     if together is None:
         return [WRONG_TUBES]
     return [0, together]
+
+
+def least(k, d, t, s):
+    """0, then the least c such that c / d bears the tubes on k transformers at most; or a refusal."""
+    measures = measures_told(t)
+    refusal = refusal_of_lengths(t, measures, s, k > 0 and d > 0)
+    if refusal is not None:
+        return [refusal]
+    needs = needs_of_loads(measures, s, d)
+    return [0, min([need(needs, s, p) for p in ways_at_will(len(s)) if max(p) < k])]
